@@ -37,9 +37,11 @@ func shared[N number](a, b row[N]) row[N] {
 	return both
 }
 
-// around hands on the other row as it came, even one without a number.
+// around asks first whether neither has a number: there is no other one to hand on then, whichever is looked at first.
 func around[N number](a, b row[N]) row[N] {
 	switch {
+	case empty(a) && empty(b):
+		return nothing[N]()
 	case empty(a):
 		return b
 	case empty(b):

@@ -411,8 +411,9 @@ func TestP41JoinAndBoth(t *testing.T) {
 		{"the other is turned", span.Join(sp(3, 5), sp(max64, 0)), sp(3, 5)},
 		{"none and Full", span.Join(noSpan, span.Full()), full},
 		{"both have none", span.Join(noSpan, noSpan), noSpan},
-		{"both have none: the other one", span.Join(sp(9, 2), noSpan), noSpan},
-		{"both have none, and are the same", span.Join(sp(9, 2), sp(9, 2)), sp(9, 2)},
+		{"both have none, the first not 1 to 0", span.Join(sp(9, 2), noSpan), noSpan},
+		{"both have none, the second not 1 to 0", span.Join(noSpan, sp(2, 0)), noSpan},
+		{"both have none, and are the same", span.Join(sp(9, 2), sp(9, 2)), noSpan},
 	})
 	checkReaches(t, []reachRow{
 		{"beside each other", span.Both(re(-2, -1), re(0, 5)), re(-2, 5)},
@@ -426,8 +427,9 @@ func TestP41JoinAndBoth(t *testing.T) {
 		{"one is turned", span.Both(re(9, -9), re(-3, 5)), re(-3, 5)},
 		{"the other is turned", span.Both(re(-3, 5), re(most, least)), re(-3, 5)},
 		{"both have none", span.Both(noReach, noReach), noReach},
-		{"both have none: the other one", span.Both(re(9, -2), noReach), noReach},
-		{"both have none, and are the same", span.Both(re(9, -2), re(9, -2)), re(9, -2)},
+		{"both have none, the first not 1 to 0", span.Both(re(9, -2), noReach), noReach},
+		{"both have none, the second not 1 to 0", span.Both(noReach, re(0, -1)), noReach},
+		{"both have none, and are the same", span.Both(re(9, -2), re(9, -2)), noReach},
 	})
 	eachTwoSpans(t, "Join", func(a, b api.Span) api.Span {
 		low, high := a.Low, a.High
@@ -872,7 +874,7 @@ func TestReachesWithoutANumberBecome1To0(t *testing.T) {
 	}
 }
 
-func TestWithOneWithoutANumberTheOtherOneIsJoined(t *testing.T) {
+func TestP41WithOneWithoutANumberTheOtherOneIsJoined(t *testing.T) {
 	someSpans, noneSpans := wideSpans()
 	for _, none := range noneSpans {
 		for _, a := range someSpans {
@@ -881,8 +883,8 @@ func TestWithOneWithoutANumberTheOtherOneIsJoined(t *testing.T) {
 			}
 		}
 		for _, other := range noneSpans {
-			if !span.None(span.Join(none, other)) || !span.In(none, other) {
-				t.Fatalf("%d and %d, both without a number", none, other)
+			if got := span.Join(none, other); got != noSpan || !span.In(none, other) {
+				t.Fatalf("%d and %d, both without a number: %d", none, other, got)
 			}
 		}
 	}
@@ -894,8 +896,8 @@ func TestWithOneWithoutANumberTheOtherOneIsJoined(t *testing.T) {
 			}
 		}
 		for _, other := range noneReaches {
-			if !span.Nil(span.Both(none, other)) {
-				t.Fatalf("%d and %d, both without a number", none, other)
+			if got := span.Both(none, other); got != noReach {
+				t.Fatalf("%d and %d, both without a number: %d", none, other, got)
 			}
 		}
 	}
