@@ -38,7 +38,7 @@ func narrow(code uint8, does deed, a, b api.Bound) api.Bound {
 		return nothing()
 	}
 	if code == api.AluLsh || code == api.AluRsh || code == api.AluArsh {
-		y = fiveBits(y)
+		y = fiveBits(b)
 	}
 	return Low(does(x, y), 32)
 }
@@ -51,7 +51,7 @@ func signedLow(b api.Bound) api.Bound {
 	return Sync(low)
 }
 
-// fiveBits is what a half is shifted by: of its bits five count, and the sixth, which counts where all 64 are shifted, is 0.
+// fiveBits is what a half is shifted by: of b's own bits five count, whatever its other ways could tell of them, and the sixth, which counts where all 64 are shifted, is 0.
 func fiveBits(b api.Bound) api.Bound {
 	low := Any()
 	low.T = tnum.Low(b.T, 5)

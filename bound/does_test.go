@@ -278,6 +278,22 @@ func TestP53NotWide(t *testing.T) {
 	})
 }
 
+// TestP53ShiftsByWhatOthersKnow: shifts are by what T knows of b itself, not by what b's other ways could tell it.
+func TestP53ShiftsByWhatOthersKnow(t *testing.T) {
+	upTo80 := changed(func(b *api.Bound) { b.U = sp(0, 80) })
+	for _, b := range []api.Bound{withU(3, 3), withS(3, 3), withW(3, 3), withV(3, 3)} {
+		checkBounds(t, []row{
+			{"up", does(t, api.AluLsh, true, alone(80), b), anything},
+			{"down", does(t, api.AluRsh, true, alone(80), b), upTo80},
+			{"down with a sign", does(t, api.AluArsh, true, alone(80), b), anything},
+			{"up, not wide", does(t, api.AluLsh, false, alone(80), b), low32},
+			{"down, not wide", does(t, api.AluRsh, false, alone(80), b), upTo80},
+			{"down with a sign, not wide", does(t, api.AluArsh, false, alone(80), b), low32},
+			{"up, not wide, once T was told", does(t, api.AluLsh, false, alone(80), synced(b, 3)), alone(640)},
+		})
+	}
+}
+
 // wideDone is what the words say of 64 bits, with so many bits of b that shifts are by.
 func wideDone(code uint8, a, b api.Bound, bits uint) api.Bound {
 	c := anything
@@ -365,6 +381,9 @@ func narrowDone(code uint8, a, b api.Bound) api.Bound {
 	}
 	if x == nothing || y == nothing {
 		return nothing
+	}
+	if code == api.AluLsh || code == api.AluRsh || code == api.AluArsh {
+		y.T = b.T
 	}
 	return lowered(wideDone(code, x, y, 5), 32)
 }
