@@ -128,7 +128,7 @@ func TestP72Wide(t *testing.T) {
 		{in(0x05, 0, 0, 3, 0), false}, {in(0x85, 0, 0, 0, 1), false}, {in(0x85, 0, 1, 0, 1), false}, {in(0x95, 0, 0, 0, 0), false},
 		{in(0x18, 1, 0, 0, 5), false}, {in(0x79, 1, 2, 8, 0), false}, {in(0x7a, 1, 0, 8, 0), false}, {in(0x7b, 1, 2, 8, 0), false},
 		// No instructions.
-		{in(0xb7, 10, 0, 0, 5), false}, {in(0xb7, 1, 0, 1, 5), false}, {in(0xd7, 1, 0, 0, 5), false}, {in(0x15, 11, 0, 3, 5), false}, {in(0xe5, 1, 0, 3, 5), false},
+		{in(0xb7, 10, 0, 0, 5), false}, {in(0xb7, 1, 0, 1, 5), false}, {in(0xd7, 1, 0, 0, 5), false}, {in(0x8f, 1, 0, 0, 0), false}, {in(0x8f, 1, 2, 0, 0), false}, {in(0x15, 11, 0, 3, 5), false}, {in(0xe5, 1, 0, 3, 5), false},
 	} {
 		if w := insn.Wide(c.i); w != c.wide {
 			t.Errorf("Wide(%v) = %v", c.i, w)
@@ -161,8 +161,6 @@ var touched = []struct {
 	{in(0xbf, 3, 10, 0, 0), []uint8{10}, 3},
 	{in(0x87, 3, 0, 0, 0), []uint8{3}, 3},
 	{in(0x84, 3, 0, 0, 0), []uint8{3}, 3},
-	{in(0x8f, 3, 2, 0, 0), []uint8{2, 3}, 3},
-	{in(0x8c, 3, 3, 0, 0), []uint8{3}, 3},
 	// Loads and stores.
 	{in(0x79, 1, 2, 8, 0), []uint8{2}, 1},
 	{in(0x71, 2, 2, 8, 0), []uint8{2}, 2},
@@ -203,6 +201,10 @@ var touched = []struct {
 	{in(0x0f, 17, 1, 0, 0), nil, -1},
 	{in(0x0f, 1, 17, 0, 0), nil, -1},
 	{in(0x0f, 1, 2, 0, 1), nil, -1},
+	{in(0x8f, 3, 0, 0, 0), nil, -1},
+	{in(0x8f, 3, 2, 0, 0), nil, -1},
+	{in(0x8c, 3, 0, 0, 0), nil, -1},
+	{in(0x8c, 3, 3, 0, 0), nil, -1},
 	{in(0x79, 10, 2, 8, 0), nil, -1},
 	{in(0x7b, 1, 2, 8, 1), nil, -1},
 	{in(0x18, 10, 0, 0, 7), nil, -1},

@@ -33,9 +33,7 @@ func named(i api.Insn) uint8 {
 	case api.ClassStx:
 		return inMemory(i.Op, api.InsnStx)
 	case api.ClassAlu, api.ClassAlu64:
-		if reckons(Code(i)) {
-			return api.InsnAlu
-		}
+		return reckoned(i)
 	case api.ClassJmp:
 		if !asks(Code(i)) {
 			return asksNothing(i)
@@ -48,6 +46,14 @@ func named(i api.Insn) uint8 {
 		}
 	}
 	return api.InsnNone
+}
+
+// reckoned answers InsnAlu, if the code is one that reckons. The one that takes a single number has no second one that a register could be.
+func reckoned(i api.Insn) uint8 {
+	if !reckons(Code(i)) || Code(i) == api.AluNeg && hasX(i.Op) {
+		return api.InsnNone
+	}
+	return api.InsnAlu
 }
 
 // inMemory answers the kind, if the mode is the one of memory.

@@ -42,7 +42,7 @@ func TestP72KindOrdinary(t *testing.T) {
 		{api.InsnAlu, []api.Insn{
 			in(0x07, 9, 0, 0, 5), in(0x0f, 9, 10, 0, 0), in(0x04, 9, 0, 0, -5), in(0x0c, 9, 10, 0, 0),
 			in(0xc7, 0, 0, 0, math.MaxInt32), in(0xcf, 0, 0, 0, 0), in(0xc4, 0, 0, 0, math.MinInt32), in(0xcc, 1, 1, 0, 0),
-			in(0x37, 1, 0, 0, 0), in(0x97, 1, 0, 0, 0), in(0x87, 1, 0, 0, 0), in(0x84, 1, 0, 0, 0), in(0x8f, 1, 0, 0, 0), in(0x8c, 1, 2, 0, 0), in(0x8f, 1, 10, 0, 0),
+			in(0x37, 1, 0, 0, 0), in(0x97, 1, 0, 0, 0), in(0x87, 1, 0, 0, 0), in(0x84, 1, 0, 0, 0), in(0x84, 0, 0, 0, 0), in(0x87, 9, 0, 0, 0),
 		}},
 		{api.InsnLoad, []api.Insn{in(0x61, 9, 10, 8, 0), in(0x69, 1, 2, -8, 0), in(0x71, 0, 0, math.MaxInt16, 0), in(0x79, 1, 1, math.MinInt16, 0)}},
 		{api.InsnSt, []api.Insn{in(0x62, 10, 0, -8, 5), in(0x6a, 1, 0, 8, -5), in(0x72, 0, 0, math.MaxInt16, math.MinInt32), in(0x7a, 9, 0, math.MinInt16, math.MaxInt32)}},
@@ -66,7 +66,7 @@ func TestP72KindOrdinary(t *testing.T) {
 func TestP72KindUnused(t *testing.T) {
 	for _, i := range []api.Insn{
 		in(0x07, 1, 1, 0, 5), in(0x07, 1, 0, 1, 5), in(0x0f, 1, 2, -1, 0), in(0x0f, 1, 2, 0, 1), in(0x0c, 1, 2, 0, -1), in(0xbf, 1, 2, 0, 1), in(0xb4, 1, 10, 0, 5),
-		in(0x87, 1, 2, 0, 0), in(0x87, 1, 0, 0, 1), in(0x84, 1, 0, 0, -1), in(0x84, 1, 10, 0, 0), in(0x87, 1, 0, 1, 0), in(0x8f, 1, 2, 0, 1), in(0x8c, 1, 2, 1, 0), in(0x8f, 1, 0, 0, 1),
+		in(0x87, 1, 2, 0, 0), in(0x87, 1, 0, 0, 1), in(0x84, 1, 0, 0, -1), in(0x84, 1, 10, 0, 0), in(0x87, 1, 0, 1, 0), in(0x84, 1, 0, -1, 0),
 		in(0x79, 1, 2, 8, 1), in(0x61, 1, 2, 8, math.MinInt32),
 		in(0x7a, 1, 2, 8, 5), in(0x62, 10, 10, 8, 5),
 		in(0x7b, 1, 2, 8, 1), in(0x63, 1, 2, 8, -1),
@@ -92,7 +92,6 @@ func TestP72KindRegisters(t *testing.T) {
 		{in(0x87, 0, 0, 0, 0), api.InsnAlu, false, false},
 		{in(0x0f, 0, 0, 0, 0), api.InsnAlu, false, true},
 		{in(0xbc, 0, 0, 0, 0), api.InsnAlu, false, true},
-		{in(0x8f, 0, 0, 0, 0), api.InsnAlu, false, true},
 		{in(0x79, 0, 0, 8, 0), api.InsnLoad, false, true},
 		{in(0x7a, 0, 0, 8, 5), api.InsnSt, true, false},
 		{in(0x7b, 0, 0, 8, 0), api.InsnStx, true, true},
@@ -145,6 +144,7 @@ func TestP72KindWrongOps(t *testing.T) {
 	ops := []uint8{
 		0x00, 0x08, 0x10, 0x20, 0x30, 0x38, 0x58, 0x98, 0x78, 0x60, 0xf8, // class Ld: but OpWide
 		0xd4, 0xdc, 0xe4, 0xec, 0xf4, 0xfc, 0xd7, 0xdf, 0xe7, 0xef, 0xf7, 0xff, // codes that reckon nothing
+		0x8c, 0x8f, // AluNeg with BitX
 		0xe5, 0xed, 0xf5, 0xfd, 0xe6, 0xee, 0xf6, 0xfe, // codes that ask nothing
 		0x0d, 0x06, 0x0e, // always, with BitX, or of 32 bits
 		0x8d, 0x86, 0x8e, // calls likewise
@@ -160,6 +160,29 @@ func TestP72KindWrongOps(t *testing.T) {
 	for _, op := range ops {
 		for _, i := range []api.Insn{in(op, 0, 0, 0, 0), in(op, 1, 0, 0, 0), in(op, 1, 2, 0, 0), in(op, 1, 2, 8, 0), in(op, 0, 0, 8, 0), in(op, 1, 0, 8, 5), in(op, 0, 0, 0, 1), in(op, 0, 1, 0, 1), in(op, 1, 0, 0, 5)} {
 			checkKind(t, i, api.InsnNone)
+		}
+	}
+}
+
+func TestP72NegHasNoSecondNumber(t *testing.T) {
+	for _, class := range []uint8{api.ClassAlu, api.ClassAlu64} {
+		op := api.AluNeg<<4 | class
+		for n := range 256 {
+			for dst := range uint8(api.Regs) {
+				i := in(op|api.BitX, dst, uint8(n), 0, 0)
+				checkKind(t, i, api.InsnNone)
+				r, is := insn.Writes(i)
+				if l := insn.Reads(i); len(l) != 0 || is || r != 0 || insn.Wide(i) || insn.Size(i) != 0 {
+					t.Errorf("%v, Op %#x: reads %v, writes %d, %v, wide %v, size %d", i, i.Op, l, r, is, insn.Wide(i), insn.Size(i))
+				}
+			}
+			want := api.InsnNone
+			if n == 0 {
+				want = api.InsnAlu
+			}
+			checkKind(t, in(op, 1, uint8(n), 0, 0), want)
+			checkKind(t, in(op, 1, 0, int16(n), 0), want)
+			checkKind(t, in(op, 1, 0, 0, int32(n)), want)
 		}
 	}
 }
